@@ -1,0 +1,1 @@
+"""Walls, pipes and ducts of a building: what clashes, and what lies too near."""

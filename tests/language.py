@@ -1,7 +1,8 @@
 """Finds where the package's files leave the form that LANGUAGE.md tells, rule by rule.
 
 Where a rule allows what the package has no use for (sets, annotations, nested ways out, methods
-with two underscores but __init__, a __main__.py), this is narrower than the rule and simpler.
+with two underscores but __init__, a __main__.py), this is narrower than the rule and simpler. What
+can't be seen in the files' form is left to the reader: L11's error messages and depth of recursion.
 """
 
 import ast
@@ -357,7 +358,7 @@ def check_class_use(source, report):
         if node.id not in known:
             continue
         around = source.above[node]
-        is_checked = isinstance(around, ast.Call) and ast.unparse(around.func) == "isinstance"
+        is_checked = is_checked_for(source, node)
         is_method = isinstance(around, ast.Attribute) and around.attr == "__init__"
         if not (source.calls_of(node) or is_checked or is_method
                 or isinstance(around, (ast.ClassDef, ast.ExceptHandler, ast.Raise))):
@@ -377,6 +378,9 @@ def check_errors(source, report):
     for node in source.every(ast.Raise):
         if not isinstance(node.exc, ast.Call):
             report.add("L19", source, node, "raise that doesn't make its error on the spot")
+        handlers = {handler.name for handler in source.every(ast.ExceptHandler)}
+        if node.cause and not is_singleton(node.cause) and ast.unparse(node.cause) not in handlers:
+            report.add("L19", source, node, "raise from something else than the handler's own")
 
 
 def check_native_calls(source, report):
@@ -387,15 +391,24 @@ def check_native_calls(source, report):
         call = source.calls_of(node)
         if call is None:
             is_key = isinstance(around, ast.keyword) and around.arg == "key" and node.id in KEYS
-            is_checked = "isinstance(" in ast.unparse(around) or "isinstance(" in ast.unparse(
-                source.above.get(around, around))
-            if not is_key and not is_checked:
+            if not is_key and not is_checked_for(source, node):
                 report.add("L22", source, node, f"{node.id} as a value")
         elif not {keyword.arg for keyword in call.keywords} <= KEYWORDS.get(node.id, set()):
             report.add("L22", source, node, "a keyword that isn't allowed")
     for node in source.every(ast.Call):
+        for keyword in node.keywords:
+            if keyword.arg in ("reverse", "strict") and not is_singleton(keyword.value):
+                report.add("L22", source, node, "True or False that isn't written")
         if isinstance(node.func, ast.Attribute) and node.func.attr in METHODS and node.keywords:
             report.add("L22", source, node, "a keyword at a method of Python's own")
+
+
+def is_checked_for(source, node):
+    """Whether the name is what isinstance asks for, by itself or in a tuple."""
+    if isinstance(source.above[node], ast.Tuple):
+        node = source.above[node]
+    call = source.above[node]
+    return isinstance(call, ast.Call) and ast.unparse(call.func) == "isinstance" and call.args[1:] == [node]
 
 
 def is_walked(node):
@@ -409,10 +422,7 @@ def check_walks(source, report):
         around = source.above[node]
         if not is_walked(node) or isinstance(around, (ast.For, ast.comprehension)) and around.iter is node:
             continue
-        is_first = isinstance(around, ast.Call) and node in around.args and (
-            isinstance(around.func, ast.Name) and around.func.id in WALKERS
-            or isinstance(around.func, ast.Attribute) and isinstance(around.func.value, ast.Constant))
-        if not is_first:
+        if not is_walked_by(around, node):
             report.add("L23", source, node, "kept, not walked on the spot")
     for loop in source.every(ast.For):
         walked = {ast.unparse(item) for item in names_walked(loop.iter)}
@@ -421,6 +431,18 @@ def check_walks(source, report):
             is_store = isinstance(node, ast.Subscript) and isinstance(node.ctx, ast.Store)
             if (is_change or is_store) and ast.unparse(node.value) in walked:
                 report.add("L23", source, node, "what a loop walks is changed in it")
+
+
+def is_walked_by(call, node):
+    if not isinstance(call, ast.Call) or node not in call.args:
+        return False
+    if isinstance(call.func, ast.Attribute):
+        return call.func.attr == "join" and isinstance(call.func.value, ast.Constant)
+    if not isinstance(call.func, ast.Name) or call.func.id not in WALKERS:
+        return False
+    # zip walks all that it is given, min and max only what they are given alone.
+    alone = call.func.id not in ("min", "max") or len(call.args) == 1
+    return alone and (node is call.args[0] or call.func.id == "zip")
 
 
 def names_walked(node):

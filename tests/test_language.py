@@ -44,7 +44,14 @@ HANDLERS = (first,)
 
 def use(cells):
     handler = HANDLERS[0]
-    return [handler(cells, text.strip()) for text in cells]
+    return [handler(cells, text.strip()) for text in cells if isinstance(text, (str, int))]
+
+
+def told(cells):
+    for left, right in zip(cells, reversed(cells), strict=True):
+        if not isinstance(left, Row) and left == right:
+            return max(range(len(left)))
+    return ", ".join([str(cell) for cell in cells])
 '''
 
 # For each rule, rows that it must not let through, each put into a function or at the top as it stands.
@@ -114,6 +121,7 @@ BAD = (
     ("L19", "except Exception", "def f(x):\n    try:\n        x()\n    except Exception:\n        pass\n"),
     ("L19", "bare except", "def f(x):\n    try:\n        x()\n    except:\n        pass\n"),
     ("L19", "raise of a name", "def f(x):\n    raise x\n"),
+    ("L19", "raise from another", "def f(x):\n    raise ValueError('no') from x\n"),
     ("L20", "is", "def f(x, y):\n    return x is y\n"),
     ("L20", "is a number", "def f(x):\n    return x is 1\n"),
     ("L21", "annotation", "def f(x: int):\n    return x\n"),
@@ -121,6 +129,10 @@ BAD = (
     ("L21", "annotation of a name", "def f():\n    x: int = 1\n    return x\n"),
     ("L22", "len as a value", "def f(x):\n    y = len\n    return y(x)\n"),
     ("L22", "keyword", "def f(x):\n    return int(x, base=2)\n"),
+    ("L22", "reverse that isn't written", "def f(x, y):\n    return sorted(x, reverse=y)\n"),
+    ("L22", "int beside isinstance", "def f(x):\n    return [isinstance(x, int), int]\n"),
+    ("L23", "max of two", "def f(x):\n    return max(range(x), range(2))\n"),
+    ("L23", "extended by", "def f(x):\n    x.extend(range(2))\n"),
     ("L23", "kept", "def f(x):\n    y = zip(x, x)\n    return list(y)\n"),
     ("L23", "items kept", "def f(x):\n    return x.items()\n"),
     ("L23", "changed while walked", "def f(xs):\n    for x in xs:\n        xs.append(x)\n"),

@@ -1,1 +1,1 @@
-"""Walls, pipes and ducts of a building: what clashes, and what lies too near."""
+"""Walls, pipes and ducts of a building: what clashes, what lies too near, and the best ways between."""

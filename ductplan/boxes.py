@@ -16,6 +16,11 @@ def is_in_order(box):
     return all([box.first[axis] <= box.last[axis] for axis in AXES])
 
 
+def is_same(box, other):
+    """The same kind, and the same cells."""
+    return box.kind == other.kind and box.first == other.first and box.last == other.last
+
+
 def has_cell(box, cell):
     return all([box.first[axis] <= cell[axis] <= box.last[axis] for axis in AXES])
 
@@ -34,6 +39,10 @@ def shared_cells(box, other):
         high = min(box.last[axis], other.last[axis])
         cells = cells * max(0, high - low + 1)
     return cells
+
+
+def cell_count(box):
+    return shared_cells(box, box)
 
 
 def steps_away(box, other):

@@ -22,6 +22,10 @@ class KindPairs:
         self.numbers[pair_key(kind, other)] = number
         return before
 
+    def pair_count(self):
+        """How many pairs have another number than 0."""
+        return len([number for number in self.numbers.values() if number != 0])
+
 
 def pair_key(kind, other):
     return (min(kind, other), max(kind, other))

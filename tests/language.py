@@ -1,8 +1,9 @@
 """Finds where the package's files leave the form that LANGUAGE.md tells, rule by rule.
 
 Where a rule allows what the package has no use for (sets, annotations, nested ways out, methods
-with two underscores but __init__, a __main__.py), this is narrower than the rule and simpler. What
-can't be seen in the files' form is left to the reader: L11's error messages and depth of recursion.
+with two underscores but __init__, a __main__.py, a function that calls itself), this is narrower
+than the rule and simpler. What can't be seen in the files' form is left to the reader: L11's error
+messages.
 """
 
 import ast
@@ -122,6 +123,7 @@ def faults(texts):
             check(source, report)
         check_attributes(source, methods, values, report)
     check_imports(sources, report)
+    check_recursion(sources, report)
     for name in sorted(methods & values):
         report.lines.append(f"L18 {name} is a method here and a value there")
     return report.lines
@@ -494,6 +496,19 @@ def check_imports(sources, report):
         stems = {name.removesuffix(".py") for name in sources}
         for name in sorted(stems & set(sources["__init__.py"].top_names())):
             report.lines.append(f"L16 __init__.py: binds {name}")
+
+
+def check_recursion(sources, report):
+    """By names alone: two functions with the same name count as one."""
+    called = {node.name: set() for source in sources.values() for node in source.functions}
+    for source in sources.values():
+        for node in source.functions:
+            names = {getattr(call.func, "id", None) or getattr(call.func, "attr", None)
+                     for call in ast.walk(node) if isinstance(call, ast.Call)}
+            called[node.name] |= names & set(called)
+    for name in called:
+        if name in reached(called, name):
+            report.lines.append(f"L11 {name} calls itself, in however many steps")
 
 
 def reached(drawn, start):

@@ -32,9 +32,9 @@ class BeforeBegin(unittest.TestCase):
 
     def test_what_was_refused_ahead_leaves_nothing(self):
         self.assertEqual(
-            told(("box", 0, 0, 0, 0, 0, 0, 0), ("may", 0, 0, 1), ("far", 0, 0, 4), ("begin", 1, 1, 1),
-                 ("at", 0, 0, 0), ("may", 0, 0, 1), ("far", 0, 0, 4)),
-            [[-11], [-11], [-11], [0], [0], [0], [0]])
+            told(("box", 0, 0, 0, 0, 0, 0, 0), ("lay", 0, 0, 0, 0, 0, 0, 0), ("may", 0, 0, 1), ("far", 0, 0, 4), ("keep",),
+                 ("begin", 1, 1, 1), ("at", 0, 0, 0), ("state",), ("changed",), ("may", 0, 0, 1), ("far", 0, 0, 4)),
+            [[-11], [-11], [-11], [-11], [-11], [0], [0], [0, 1, 1, 1, 0, 0], [-16], [0], [0]])
 
 
 class Size(unittest.TestCase):

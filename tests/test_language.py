@@ -98,6 +98,9 @@ BAD = (
     ("L10", "tab", "def f():\n\treturn 1\n"),
     ("L10", "long function", "def f(x):\n" + "    x = x + 1\n" * 40 + "\n"),
     ("L10", "long file", "# a\n" * 401),
+    ("L11", "calls itself", "def f(n):\n    return f(n - 1)\n"),
+    ("L11", "calls itself by another", "def f(n):\n    return g(n)\n\n\ndef g(n):\n    return f(n)\n"),
+    ("L11", "method that calls itself", "class A:\n    def go(self):\n        return self.go()\n"),
     ("L12", "underscore", "def f(_x):\n    return _x\n"),
     ("L12", "underscore by itself", "def f(xs):\n    return [1 for _ in xs]\n"),
     ("L13", "two lambdas", "def f():\n    return [lambda x: x, lambda x: x]\n"),
@@ -184,7 +187,7 @@ class Check(unittest.TestCase):
     def test_files_that_draw_from_one_another_are_seen(self):
         found = faults({
             "one.py": "from ductplan.two import g\n\n\ndef f():\n    return g()\n",
-            "two.py": "from ductplan.one import f\n\n\ndef g():\n    return f()\n"})
+            "two.py": "from ductplan.one import f\n\n\ndef g():\n    return 1\n\n\ndef h():\n    return f()\n"})
         self.assertEqual({line.split()[0] for line in found}, {"L16"})
 
     def test_a_name_from_a_file_that_does_not_define_it_is_seen(self):

@@ -1,4 +1,4 @@
-"""clashes, common, hits, at and near (point 3)."""
+"""clashes, common, hits, at, near, away, through and volume (point 3)."""
 
 import unittest
 
@@ -181,6 +181,87 @@ class Near(unittest.TestCase):
 
     def test_told_back_to_0(self):
         self.assertEqual(last(HOUSE, CELL, CELL, ("far", 0, 0, 5), ("far", 0, 0, 0), ("near",)), [0])
+
+
+class Away(unittest.TestCase):
+    def test_the_greatest_of_the_three(self):
+        for end in ((0, 0, 0), (1, 0, 0), (1, 1, 1), (3, 1, 2), (1, 3, 2), (1, 1, 2), (0, 0, 2), (4, 4, 2), (0, 4, 0)):
+            boxes = (HOUSE, CELL, cell_at(1, *end))
+            self.assertEqual(told(*boxes, ("away", 0, 1), ("away", 1, 0))[3:], [[max(end)], [max(end)]], end)
+
+    def test_from_the_nearest_cells(self):
+        boxes = (HOUSE, ("box", 0, 0, 0, 0, 1, 4, 2), ("box", 1, 4, 1, 1, 4, 2, 1), ("box", 1, 0, 0, 0, 4, 0, 0))
+        self.assertEqual(told(*boxes, ("away", 0, 1), ("away", 1, 2), ("away", 0, 2))[4:], [[3], [1], [0]])
+
+    def test_touching_at_a_side_an_edge_and_a_corner(self):
+        for other in ((3, 1, 0), (0, 2, 0), (1, 3, 0), (2, 0, 0), (1, 1, 1), (3, 3, 0), (0, 0, 1)):
+            self.assertEqual(last(HOUSE, ("box", 0, 1, 1, 0, 2, 2, 0), cell_at(0, *other), ("away", 0, 1)), [1], other)
+
+    def test_one_within_the_other(self):
+        boxes = (HOUSE, ("box", 0, 0, 0, 0, 4, 4, 2), cell_at(1, 2, 2, 1))
+        self.assertEqual(told(*boxes, ("away", 0, 1), ("away", 1, 0))[3:], [[0], [0]])
+
+    def test_from_itself(self):
+        self.assertEqual(last(HOUSE, ("box", 0, 1, 1, 1, 3, 3, 2), ("away", 0, 0)), [0])
+        self.assertEqual(last(*FULL, ("away", 15, 15)), [0])
+
+    def test_no_such_box(self):
+        for slot in (1, 15, 16, GREATEST):
+            self.assertEqual(last(HOUSE, CELL, ("away", 0, slot)), [-2])
+            self.assertEqual(last(HOUSE, CELL, ("away", slot, 0)), [-2])
+            self.assertEqual(last(HOUSE, CELL, ("away", slot, slot)), [-2])
+        self.assertEqual(last(HOUSE, CELL, CELL, CELL, ("drop", 1), ("away", 0, 1)), [-2])
+
+
+class Through(unittest.TestCase):
+    def test_those_that_may_with_how_many_cells(self):
+        boxes = (HOUSE, ("box", 1, 0, 0, 0, 0, 3, 0), ("box", 0, 0, 0, 0, 4, 1, 1), ("box", 2, 1, 1, 0, 2, 2, 2),
+                 ("box", 3, 0, 0, 0, 4, 4, 2), ("box", 1, 0, 3, 0, 4, 4, 2), ("may", 0, 1, 1), ("may", 3, 0, 1))
+        self.assertEqual(told(*boxes, *[("through", slot) for slot in range(5)])[8:],
+                         [[1, 1, 2], [2, 0, 2, 3, 20], [0], [1, 1, 20], [0]])
+
+    def test_not_itself(self):
+        self.assertEqual(last(HOUSE, CELL, ("may", 0, 0, 1), ("through", 0)), [0])
+
+    def test_a_kind_and_its_like(self):
+        self.assertEqual(last(HOUSE, CELL, CELL, ("through", 0)), [0])
+        self.assertEqual(told(HOUSE, CELL, CELL, ("may", 0, 0, 1), ("through", 0), ("through", 1), ("hits", 0))[4:],
+                         [[1, 1, 1], [1, 0, 1], [0]])
+
+    def test_just_touching(self):
+        self.assertEqual(last(HOUSE, CELL, cell_at(0, 1, 0, 0), ("may", 0, 0, 1), ("through", 0)), [0])
+
+    def test_an_empty_slot_between_and_the_last_one(self):
+        found = told(*FULL, ("may", 0, 0, 1), ("drop", 3), ("through", 15), ("through", 0))
+        self.assertEqual(found[19], [14] + [number for slot in range(15) if slot != 3 for number in (slot, 1)])
+        self.assertEqual(found[20], [14] + [number for slot in range(1, 16) if slot != 3 for number in (slot, 1)])
+
+    def test_no_such_box(self):
+        for slot in (1, 15, 16, GREATEST):
+            self.assertEqual(last(HOUSE, CELL, ("through", slot)), [-2])
+        self.assertEqual(last(HOUSE, CELL, CELL, CELL, ("drop", 1), ("through", 1)), [-2])
+
+
+class Volume(unittest.TestCase):
+    def test_of_each_kind(self):
+        boxes = (HOUSE, ("box", 0, 0, 0, 0, 4, 3, 2), ("box", 1, 0, 0, 0, 1, 1, 0), cell_at(1, 4, 4, 2),
+                 ("box", 3, 2, 2, 2, 2, 4, 2))
+        self.assertEqual(told(*boxes, *[("volume", kind) for kind in range(4)])[5:], [[60], [5], [0], [3]])
+
+    def test_a_cell_of_two_counts_twice(self):
+        self.assertEqual(last(HOUSE, CELL, CELL, ("volume", 0)), [2])
+        whole = ("box", 2, 0, 0, 0, 4, 4, 2)
+        self.assertEqual(last(HOUSE, *[whole] * 16, ("volume", 2)), [1200])
+
+    def test_it_goes_with_what_is_dropped(self):
+        self.assertEqual(last(HOUSE, CELL, ("box", 0, 0, 0, 0, 1, 1, 1), CELL, ("drop", 1), ("volume", 0)), [2])
+
+    def test_no_boxes(self):
+        self.assertEqual(last(HOUSE, ("volume", 3)), [0])
+
+    def test_no_such_kind(self):
+        for kind in (4, 5, 256, GREATEST):
+            self.assertEqual(last(HOUSE, CELL, ("volume", kind)), [-22])
 
 
 if __name__ == "__main__":

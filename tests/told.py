@@ -7,9 +7,10 @@ NAMES = (
     "away", "way", "lay", "through", "volume", "keep", "changed", "newly", "back", "look", "state",
 )
 GREATEST = 4294967295
+MOST_CALLS = 60
 
-# What stage the program is at: these calls have landed.
-LANDED = NAMES[:11]
+# Asks for all that can be seen without a kept plan; what a refusal hasn't changed is answered alike.
+EVERYTHING = (("state",), ("clashes",), ("near",)) + tuple(("look", slot) for slot in range(16))
 
 
 def numbered(calls):
@@ -36,6 +37,8 @@ def split(numbers):
 
 def told(*calls):
     """What each of the calls is answered, on one new object."""
+    if len(calls) > MOST_CALLS:
+        raise AssertionError(f"{len(calls)} calls are more than a list may hold")
     found = split(answers(numbered(calls)))
     if len(found) != len(calls):
         raise AssertionError(f"{len(calls)} calls, but {len(found)} answers")
@@ -45,3 +48,9 @@ def told(*calls):
 def last(*calls):
     """What the last of the calls is answered."""
     return told(*calls)[-1]
+
+
+def boxes(*calls):
+    """What each slot's box looks like behind the calls, by its slot."""
+    found = told(*calls, *[("look", slot) for slot in range(16)])[len(calls):]
+    return {slot: answer for slot, answer in enumerate(found) if answer != [-2]}
